@@ -1,0 +1,1 @@
+"""Quillrun: a program that runs while several authors edit it."""
