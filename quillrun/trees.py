@@ -1,0 +1,51 @@
+"""What the trees of definitions and expressions consist of."""
+
+
+def parts(e):
+    """Returns the tuple of the expressions that are the parts of an expression, in order."""
+    match e:
+        case ("list", items):
+            return items
+        case ("call", _, arguments):
+            return arguments
+        case ("make", _, arguments):
+            return arguments
+        case ("not", first):
+            return (first,)
+        case ("cons", first, second):
+            return (first, second)
+        case ("let", _, first, second):
+            return (first, second)
+        case ("binary", _, first, second):
+            return (first, second)
+        case ("if", condition, first, second):
+            return (condition, first, second)
+        case ("split", whole, first, _, _, second):
+            return (whole, first, second)
+        case ("match", whole, arms):
+            return (whole, *[arm[2] for arm in arms])
+    return ()
+
+
+def expressions(definition):
+    """Returns the tuple of the expressions that stand in a definition as a whole, in order."""
+    match definition:
+        case ("fun", _, _, e):
+            return (e,)
+        case ("cell", _, _, e, _):
+            return (e,)
+        case ("view", _, e):
+            return (e,)
+        case ("act", _, _, settings, e):
+            return (*[setting[1] for setting in settings], e)
+    return ()
+
+
+def kinds(definition):
+    """Returns the tuple of the types that stand in a definition, in order."""
+    match definition:
+        case ("data", _, makers):
+            return tuple([field for _, fields in makers for field in fields])
+        case ("cell", _, kind, _, _):
+            return (kind,)
+    return ()
