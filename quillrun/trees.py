@@ -49,3 +49,20 @@ def kinds(definition):
         case ("cell", _, kind, _, _):
             return (kind,)
     return ()
+
+
+def bound(e):
+    """Returns for each part of an expression the tuple of the names that become local in it."""
+    match e:
+        case ("let", name, _, _):
+            return ((), (name,))
+        case ("split", _, _, item, rest, _):
+            return ((), (), (item, rest))
+        case ("match", _, arms):
+            return ((), *[arm[1] for arm in arms])
+    return tuple([() for _ in parts(e)])
+
+
+def parameters(definition):
+    """Returns the tuple of the parameters of a definition."""
+    return definition[2] if definition[0] in ("fun", "act") else ()
