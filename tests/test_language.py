@@ -70,6 +70,7 @@ class LanguageTest(unittest.TestCase):
     def test_only_own_names_and_the_allowed_builtins_are_called(self):
         own = own_names(self.trees.values())
         stored = {node.id for _, node in self.nodes(ast.Name) if isinstance(node.ctx, ast.Store)}
+        stored |= {node.arg for _, node in self.nodes(ast.arg)}
         for path, node in self.nodes(ast.Call):
             if isinstance(node.func, ast.Name):
                 self.assertIn(node.func.id, own | stored | BUILTINS, path)
@@ -98,6 +99,24 @@ class LanguageTest(unittest.TestCase):
                     self.assertNotIn(node.id, taken, path)
                 if isinstance(node, ast.MatchAs):
                     self.assertNotIn(node.name, taken, path)
+
+    def test_is_stands_beside_none_only(self):
+        for path, node in self.nodes(ast.Compare):
+            if any(isinstance(sign, (ast.Is, ast.IsNot)) for sign in node.ops):
+                self.assertIsInstance(node.comparators[0], ast.Constant, path)
+                self.assertIsNone(node.comparators[0].value, path)
+
+    def test_no_method_or_attribute_has_the_name_of_another_method_of_builtin_values(self):
+        builtin = {name for kind in (str, int, list, dict, set, bytes) for name in dir(kind) if name[0] != "_"}
+        barred = builtin - METHODS - {"add", "discard"}
+        for path, tree in self.trees.items():
+            for node in ast.walk(tree):
+                if isinstance(node, ast.ClassDef):
+                    methods = {part.name for part in node.body if isinstance(part, ast.FunctionDef)}
+                    stored = {part.attr for part in ast.walk(node)
+                              if isinstance(part, ast.Attribute) and isinstance(part.ctx, ast.Store)}
+                    self.assertEqual((methods & barred, methods & stored), (set(), set()), (path, node.name))
+                    self.assertEqual(stored & builtin - {"count", "index", "copy", "add"}, set(), (path, node.name))
 
     def test_captured_names_are_bound_by_cases_only(self):
         for path, function in self.nodes(ast.FunctionDef):

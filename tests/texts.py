@@ -20,3 +20,33 @@ def expression(text):
 def in_force(made):
     """The names of the definitions in force, in their order."""
     return [definition[1] for definition in made.force]
+
+
+def unjudged(text):
+    """The program of a text in which everything counts as typed."""
+    def judge(found, _):
+        return {definition[1]: ((), (0, "num")) for definition in found if definition[0] in ("fun", "view", "act")}
+    return Program(definitions(text), judge)
+
+
+def value(found):
+    return ("value", found)
+
+
+def listed(*items):
+    return ("list", items)
+
+
+def made(maker, *arguments):
+    return ("make", maker, arguments)
+
+
+def fault(word, *name):
+    return ("fault", (word, *name))
+
+
+STUCK = fault("stuck")
+LARGE = fault("large")
+DIVISION = fault("division")
+DEEP = fault("deep")
+LONG = fault("long")
