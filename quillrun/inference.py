@@ -7,7 +7,7 @@ PLAIN_BASES = ("num", "text", "bool")
 NUM = (0, "num")
 TEXT = (0, "text")
 BOOL = (0, "bool")
-LITERALS = {"number": NUM, "text": TEXT, "bool": BOOL}
+LITERALS = {"number": (0, "num"), "text": (0, "text"), "bool": (0, "bool")}
 # The base of both sides and the base of the result.
 OPERATORS = {
     "+": ("num", "num"), "-": ("num", "num"), "*": ("num", "num"), "/": ("num", "num"), "mod": ("num", "num"),

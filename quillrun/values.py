@@ -1,6 +1,7 @@
 """Values: what they are made of, how they are written, and which types they have."""
 
-TOO_LARGE = 1 << 100
+# 2 to the power of 100, a larger exponent than the language allows.
+TOO_LARGE = 1267650600228229401496703205376
 MOST_SIZE = 1000
 MOST_DEPTH = 40
 

@@ -292,14 +292,19 @@ view v = f(1)
         self.assertEqual(self.answers("data z = Z\n" + self.BASE, self.HELD), expected)
 
     def test_definitions_that_are_left_out(self):
-        # Without g the function f is not in force; everything else counts as typed all the same.
-        program = texts.program(self.BASE.replace("else g(x)", "else x"))
-        meaning = Meaning(program, self.HELD)
-        less = texts.program("cell c : num = 1\nfun f(x) = if x < 10 then x + c else x\nview v = f(1)\n")
-        for name in ("f", "v", "c", "d", "g"):
-            found = (meaning.look(name), Meaning(less, {"c": value(3)}).look(name))
-            self.assertEqual(found[0] == found[1], name != "d", name)
-        self.assertEqual(meaning.call("f", [1]), Meaning(less, {"c": value(3)}).call("f", [1]))
+        rows = "cell c : num = 1\nfun f(x) = if x < 10 then x + c else x\nview v = f(1)\n"
+        less = texts.program(rows)
+        more = texts.program(rows + "cell d : num = 2\nfun g(x) = x + d\nview w = v + g(1)\n")
+        first, second = Meaning(less, {"c": value(3)}), Meaning(more, self.HELD)
+        for name in ("c", "v", "f", "gone"):
+            self.assertEqual(first.look(name), second.look(name))
+            self.assertEqual(first.call(name, [1]), second.call(name, [1]))
+            self.assertEqual(call_code(less, {"c": value(3)}, name, [1]), call_code(more, self.HELD, name, [1]))
+        for text in ("[f(c), v]", "if true then v else d", "true or w", "gone"):
+            self.assertEqual(first.run(expression(text), (), ()), second.run(expression(text), (), ()))
+        for name in ("d", "w"):
+            self.assertEqual(first.look(name), (fault("missing", name), 0, [name]))
+            self.assertEqual(second.look(name)[0][0], "value")
 
     def test_what_is_read_makes_a_difference(self):
         expected = self.answers(self.BASE, self.HELD)
