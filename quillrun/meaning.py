@@ -11,6 +11,13 @@ def view_run(world, name):
     return run
 
 
+def look_in(world, name):
+    """Returns outcome, steps and reads of what a name tells in a world; the views that this needs become known."""
+    run = TreeRun(world)
+    run.pending.append(("tell", name))
+    return finished(run, world, view_run)
+
+
 class Meaning:
     """What calls, names and expressions come to; views are run once and remembered."""
 
@@ -26,9 +33,7 @@ class Meaning:
 
     def look(self, name):
         """Returns outcome, steps and reads of what a name tells that is not local."""
-        run = TreeRun(self._world)
-        run.pending.append(("tell", name))
-        return finished(run, self._world, view_run)
+        return look_in(self._world, name)
 
     def run(self, e, names, values):
         """Returns outcome, steps and reads of an expression with local names, the last one the nearest."""
