@@ -30,7 +30,7 @@ def seen_of(program, word):
     return definition[0], program.schemes[word]
 
 
-def reading(chunk):
+def read_chunk(chunk):
     """Returns the pair of the tree of a chunk and None, or of None and the position at which it is refused."""
     try:
         return parse(chunk), None
@@ -48,7 +48,7 @@ class Engine:
         self.problems = []
         self.program = Program([])
         self.codes = {}
-        # What `reading` returned for each chunk.
+        # What `read_chunk` returned for each chunk.
         self._readings = {}
         # For each component that was judged, by its first name: its trees, what they saw, what `typed` returned.
         self._judgements = {}
@@ -70,7 +70,7 @@ class Engine:
             if chunk in self._readings:
                 readings[chunk] = self._readings[chunk]
             elif chunk not in readings:
-                readings[chunk] = reading(chunk)
+                readings[chunk] = read_chunk(chunk)
                 self.read += 1
         return readings
 

@@ -2,19 +2,10 @@ import random
 import unittest
 
 import texts
+from plain_engine import PlainEngine, problems, trees
 from quillrun.code import definition_code
-from quillrun.errors import RefusedChunk
 from quillrun.live import Engine, seen
-from quillrun.parser import parse
-from quillrun.program import Program, typed
-
-
-def parsed(chunk):
-    """The tree of a chunk, or the position at which it is refused."""
-    try:
-        return parse(chunk)
-    except RefusedChunk as refused:
-        return refused.position
+from quillrun.program import Program
 
 
 def told(program):
@@ -29,19 +20,11 @@ class EngineCase(unittest.TestCase):
 
     def assert_anew(self, chunks):
         """The engine tells what a program tells that is made anew."""
-        trees = [parsed(chunk) for chunk in chunks]
-        program = Program([tree for tree in trees if not isinstance(tree, int)])
+        program = Program(trees(chunks))
         self.assertEqual(told(self.engine.program), told(program))
         self.assertEqual(self.engine.codes, {one[1]: definition_code(one) for one in program.force
                                              if one[0] in ("fun", "view", "act")})
-        problems, index = [], 0
-        for tree in trees:
-            if isinstance(tree, int):
-                problems.append(("refused", tree))
-            else:
-                problems.append(program.problems.get(index))
-                index += 1
-        self.assertEqual(self.engine.problems, problems)
+        self.assertEqual(self.engine.problems, problems(chunks, program))
         fresh = Engine()
         fresh.update(chunks)
         self.assertEqual((told(self.engine.program), self.engine.codes, self.engine.problems),
@@ -221,11 +204,12 @@ class ListsTest(EngineCase):
         chance = random.Random(49)
         for _ in range(40):
             self.engine = Engine()
-            model = Model()
+            plain = PlainEngine()
             chunks = chance.sample(CHUNKS, chance.randrange(12))
             for _ in range(15):
                 self.engine.update(chunks)
-                self.assertEqual((self.engine.read, self.engine.judged, self.engine.compiled), model.counts(chunks))
+                plain.update(chunks)
+                self.assertEqual((self.engine.read, self.engine.judged, self.engine.compiled), plain.done)
                 self.assert_anew(chunks)
                 chunks = changed(chance, chunks)
 
@@ -247,28 +231,6 @@ def changed(chance, chunks):
     if chance.random() < 0.2:
         chance.shuffle(chunks)
     return chunks
-
-
-class Model:
-    """What is counted, as point [49] tells it."""
-
-    def __init__(self):
-        self.before = (set(), set(), set())
-        self.done = [0, 0, 0]
-
-    def counts(self, chunks):
-        judged = set()
-
-        def judge(definitions, program):
-            judged.add(repr((definitions, seen(program, definitions))))
-            return typed(definitions, program)
-        trees = [parsed(chunk) for chunk in chunks]
-        program = Program([tree for tree in trees if not isinstance(tree, int)], judge)
-        compiled = {repr(one) for one in program.force if one[0] in ("fun", "view", "act")}
-        now = (set(chunks), judged, compiled)
-        self.done = [count + len(new - old) for count, new, old in zip(self.done, now, self.before)]
-        self.before = now
-        return tuple(self.done)
 
 
 NUM, TEXT = (0, "num"), (0, "text")
