@@ -69,7 +69,7 @@ def checksum(data):
 def write_sum(data):
     """Writes the sum of bytes as four bytes, the most significant first."""
     total = checksum(data)
-    return [total // 16777216, total // 65536 % 256, total // 256 % 256, total % 256]
+    return [total >> 24, (total >> 16) & 255, (total >> 8) & 255, total & 255]
 
 
 def write_record(data):

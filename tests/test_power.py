@@ -273,6 +273,10 @@ class TidyTest(PowerCase):
                 expected = ([], new) if arrived == new else (old, [])
                 self.assertEqual((workshop.log(0), workshop.log(1)), expected)
                 self.assertEqual((workshop.status()[0], workshop.view("n")), (base.commits, (value(5), 0, ["n"])))
+                # Notes go into the file that counts now.
+                workshop.act("set", [8])
+                note = write_note([], [("n", ((0, "num"), ()), value(8))])
+                self.assertEqual((workshop.log(0), workshop.log(1)), tuple(log + note if log else [] for log in expected))
 
 
 class OpenTest(PowerCase):
