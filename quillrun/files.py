@@ -58,7 +58,7 @@ class File:
         if word == "write":
             self._content.append(number)
         else:
-            del self._content[number:]
+            self._content = self._content[:number]
         self._pending.append(step)
 
     def _settle(self):
